@@ -64,7 +64,7 @@ func Ends(l api.Lattice) (int, int, api.Errno) {
 func areNames(names []string) bool {
 	seen := make(map[string]int)
 	for i, name := range names {
-		if _, twice := seen[name]; twice || !isName(name) {
+		if _, twice := seen[name]; twice || !IsName(name) {
 			return false
 		}
 		seen[name] = i
@@ -72,7 +72,8 @@ func areNames(names []string) bool {
 	return len(names) > 0
 }
 
-func isName(s string) bool {
+// IsName tells whether s is a NAME (P3); modules are made of them too, so it is shared.
+func IsName(s string) bool {
 	if len(s) < 1 || len(s) > api.MaxName {
 		return false
 	}
