@@ -170,13 +170,14 @@ func checkPair(l api.Lattice, a, b int) api.Errno {
 	if e := Check(l); e != api.OK {
 		return e
 	}
-	if !isLevel(l, a) || !isLevel(l, b) {
+	if !IsLevel(l, a) || !IsLevel(l, b) {
 		return api.ErrArg
 	}
 	return api.OK
 }
 
-func isLevel(l api.Lattice, a int) bool {
+// IsLevel tells whether a is a level's number; l need not be such as Check lets go. Labels and schemes have such numbers too, so it is shared.
+func IsLevel(l api.Lattice, a int) bool {
 	return a >= 0 && a < len(l.Names)
 }
 
