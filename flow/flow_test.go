@@ -579,6 +579,35 @@ func TestManyCalls(t *testing.T) {
 	}
 }
 
+// TestWithin: what Of tells, up to just as many Names and Cons as there are.
+func TestWithin(t *testing.T) {
+	for i, l := range lattices() {
+		r := source{uint64(400 + i), l}
+		for range 100 {
+			w := r.world(5)
+			for k := range w.m.Funs {
+				w.own = r.schemes(w.m.Funs[:k])
+				want, _ := w.of(k)
+				names, cons := len(want.Names), len(want.Cons)
+				p, e := Within(w.l, w.m, k, w.known, w.schemes, w.own, names, cons)
+				if e != api.OK || !same(p, want) {
+					t.Fatal(p, e, want)
+				}
+				for _, most := range [][2]int{{names - 1, cons}, {names, cons - 1}, {-1, math.MaxInt}, {math.MaxInt, -1}} {
+					p, e := Within(w.l, w.m, k, w.known, w.schemes, w.own, most[0], most[1])
+					if e != api.ErrLarge || !reflect.DeepEqual(p, api.Problem{}) {
+						t.Fatal(p, e, most, names, cons)
+					}
+				}
+			}
+		}
+	}
+	w := around(t, "(call g p q)")
+	if _, e := Within(w.l, w.m, 2, w.known, w.schemes, nil, 0, 0); e != api.ErrArg {
+		t.Error("ErrArg is told ahead of ErrLarge:", e)
+	}
+}
+
 // TestDeep: as deep as brackets may be nested.
 func TestDeep(t *testing.T) {
 	e := name("p")

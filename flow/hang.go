@@ -22,19 +22,7 @@ func (h hang) label() api.Label {
 func (s *scope) with(a, b hang) hang {
 	from := slices.Concat(a.from, b.from)
 	slices.Sort(from)
-	return hang{from: slices.Compact(from), level: s.joined(a.level, b.level)}
-}
-
-// joined asks lattice.Join, which looks at the whole lattice, only where neither level is below the other.
-func (s *scope) joined(a, b int) int {
-	if s.l.Leq[a][b] {
-		return b
-	}
-	if s.l.Leq[b][a] {
-		return a
-	}
-	level, _ := lattice.Join(s.l, a, b)
-	return level
+	return hang{from: slices.Compact(from), level: lattice.Joined(s.l, a.level, b.level)}
 }
 
 // hangsOn: P16.

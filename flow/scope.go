@@ -35,6 +35,7 @@ type scope struct {
 	names   []string       // of the function's variables, by their numbers
 	numbers map[string]int
 	called  map[string]api.Scheme
+	sets    int // of the function's variables: each will be a constraint
 	effects []string
 }
 
@@ -75,6 +76,9 @@ func (s *scope) noteCommands(body []api.Stmt, c callees) {
 		switch command.Kind {
 		case api.SSet:
 			s.noteName("w:", command.Name)
+			if _, ok := s.levels[command.Name]; !ok {
+				s.sets++
+			}
 		case api.SPrint:
 			s.effects = append(s.effects, "p:"+command.Name)
 		}

@@ -156,6 +156,12 @@ func joined(leq [][]bool, a, b int) (int, api.Errno) {
 	return 0, api.ErrForm
 }
 
+// Joined is Join where lattice and levels were looked at already, so that it has no error to tell: labels are joined often, and looking costs more than joining.
+func Joined(l api.Lattice, a, b int) int {
+	level, _ := joined(l.Leq, a, b)
+	return level
+}
+
 // belowBounds tells whether c is below all levels that are above both a and b.
 func belowBounds(leq [][]bool, a, b, c int) bool {
 	for d := range leq {

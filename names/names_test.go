@@ -265,6 +265,18 @@ func TestOrderAndOnce(t *testing.T) {
 		diag(api.DFun, "f", "a"), diag(api.DFun, "f", "b"), diag(api.DFun, "f", "b.z"), diag(api.DFun, "f", "ba"))
 }
 
+func TestInOrder(t *testing.T) {
+	in := []api.Diag{diag(6, "g", "a"), diag(8, "", "z"), diag(6, "f", "b"), diag(6, "g", "a"), diag(6, "f", "a.b"), diag(7, "f", "a"), diag(6, "f", "a")}
+	was := slices.Clone(in)
+	want := []api.Diag{diag(8, "", "z"), diag(6, "f", "a"), diag(6, "f", "a.b"), diag(6, "f", "b"), diag(7, "f", "a"), diag(6, "g", "a")}
+	if got := InOrder(in); !slices.Equal(got, want) || !slices.Equal(in, was) {
+		t.Error(got, in)
+	}
+	if got := InOrder(nil); len(got) != 0 {
+		t.Error(got)
+	}
+}
+
 func TestErrors(t *testing.T) {
 	good := read(t, "(module m (import nowhere) (fun f () (call f)))")
 	form := api.Module{Name: "M"}

@@ -25,12 +25,12 @@ func (s *system) add(c api.Constraint) {
 	}
 }
 
-// raise tells whether the label had to go up: only then is a join asked for, since lattice.Join looks at the whole lattice.
+// raise tells whether the label had to go up.
 func (s *system) raise(v int, a api.Label) bool {
 	if isBelow(s.l, a, s.labels[v]) {
 		return false
 	}
-	s.labels[v] = joined(s.l, s.labels[v], a)
+	s.labels[v] = Joined(s.l, s.labels[v], a)
 	return true
 }
 
